@@ -21,7 +21,7 @@ from manyonline.kinds import (
 )
 from manyonline.line import fail_stream, is_idle, send_frame, tell
 from manyonline.rows import bytes_of_number, number_of_bytes, number_without_top_bit
-from manyonline.settings import settings_came, window_came
+from manyonline.settings import SETTING_BYTES, grow_window, take_settings
 
 
 def data_came(line, frame):
@@ -30,22 +30,23 @@ def data_came(line, frame):
     if body is None or is_idle(line, frame.stream):
         return OUT_OF_RULE
     give_back_room(line, 0, frame)
-    if frame.stream not in line.streams or not line.streams[frame.stream].more_may_come:
+    stream = line.streams.get(frame.stream)
+    if stream is None or not stream.more_may_come:
         fail_stream(line, frame.stream, NO_MORE_MAY_COME)
         return FINE
     last = frame.has_set(LAST)
     if last:
-        line.streams[frame.stream].more_may_come = False
+        stream.more_may_come = False
     else:
         give_back_room(line, frame.stream, frame)
     tell(line, data_event(frame.stream, last, body))
     return FINE
 
 
-def give_back_room(line, stream, frame):
+def give_back_room(line, number, frame):
     # Padding has used up room too: all that was in the frame counts.
     if len(frame.body) > 0:
-        send_frame(line, WINDOW_FRAME, 0, stream, bytes_of_number(len(frame.body), 4))
+        send_frame(line, WINDOW_FRAME, 0, number, bytes_of_number(len(frame.body), 4))
 
 
 def headers_came(line, frame):
@@ -85,6 +86,19 @@ def reset_came(line, frame):
     return FINE
 
 
+def settings_came(line, frame):
+    if frame.stream != 0:
+        return OUT_OF_RULE
+    if frame.has_set(ANSWERED):
+        return FINE if len(frame.body) == 0 else WRONG_LENGTH
+    if len(frame.body) % SETTING_BYTES != 0:
+        return WRONG_LENGTH
+    fault = take_settings(line, frame.body)
+    if fault == FINE:
+        send_frame(line, SETTINGS_FRAME, ANSWERED, 0, [])
+    return fault
+
+
 def never_right(line, frame):
     return OUT_OF_RULE
 
@@ -105,6 +119,21 @@ def away_came(line, frame):
     if len(frame.body) < 8:
         return WRONG_LENGTH
     tell(line, Event(GOES_AWAY, 0, False, number_of_bytes(frame.body[4:8])))
+    return FINE
+
+
+def window_came(line, frame):
+    if len(frame.body) != 4:
+        return WRONG_LENGTH
+    growth = number_without_top_bit(frame.body)
+    if frame.stream == 0:
+        return grow_window(line, growth)
+    if is_idle(line, frame.stream):
+        return OUT_OF_RULE
+    if frame.stream in line.streams:
+        fault = grow_window(line.streams[frame.stream], growth)
+        if fault != FINE:
+            fail_stream(line, frame.stream, fault)
     return FINE
 
 

@@ -25,9 +25,13 @@ def weight_of_headers(headers):
 
 
 def is_plain_name(name):
-    if len(name) == 0 or min(name) < 33 or max(name) > 126 or COLON in name:
-        return False
-    return not any([65 <= byte <= 90 for byte in name])
+    # Each byte is looked at once: a long name may come again and again from the table.
+    different = sorted(set(name))
+    return len(different) > 0 and all([is_plain_name_byte(byte) for byte in different])
+
+
+def is_plain_name_byte(byte):
+    return 33 <= byte <= 126 and byte != COLON and not 65 <= byte <= 90
 
 
 def is_plain_value(value):

@@ -1,11 +1,7 @@
 """The kinds of frames, the bits of their flags, and the codes of faults."""
 
-DATA_FRAME = 0
-HEADERS_FRAME = 1
-PRIORITY_FRAME = 2
 RESET_FRAME = 3
 SETTINGS_FRAME = 4
-PUSH_FRAME = 5
 PING_FRAME = 6
 AWAY_FRAME = 7
 WINDOW_FRAME = 8

@@ -1,13 +1,13 @@
-"""Settings and windows of the other end.
+"""Settings and windows: what the other end lets this one do.
 
-Where a function answers a fault, it's the code with which the line fails, or FINE.
+Where a function answers a fault, it's the code with which the line or a stream fails, or FINE.
 """
 
-from manyonline.kinds import ANSWERED, FINE, OUT_OF_RULE, SETTINGS_FRAME, WINDOW_TOO_LARGE, WRONG_LENGTH
-from manyonline.line import fail_stream, is_idle, send_frame
-from manyonline.rows import number_of_bytes, number_without_top_bit
+from manyonline.kinds import FINE, OUT_OF_RULE, WINDOW_TOO_LARGE
+from manyonline.rows import number_of_bytes
 
 MOST_WINDOW = 2147483647
+SETTING_BYTES = 6
 
 # What a setting is about.
 PUSH_SETTING = 2
@@ -17,20 +17,13 @@ LEAST_FRAME_LENGTH = 16384
 MOST_FRAME_LENGTH = 16777215
 
 
-def settings_came(line, frame):
-    if frame.stream != 0:
-        return OUT_OF_RULE
-    if frame.has_set(ANSWERED):
-        return FINE if len(frame.body) == 0 else WRONG_LENGTH
-    if len(frame.body) % 6 != 0:
-        return WRONG_LENGTH
-    for place in range(0, len(frame.body), 6):
-        what = number_of_bytes(frame.body[place:place + 2])
-        how_much = number_of_bytes(frame.body[place + 2:place + 6])
+def take_settings(line, body):
+    for place in range(0, len(body), SETTING_BYTES):
+        what = number_of_bytes(body[place:place + 2])
+        how_much = number_of_bytes(body[place + 2:place + SETTING_BYTES])
         fault = take_setting(line, what, how_much)
         if fault != FINE:
             return fault
-    send_frame(line, SETTINGS_FRAME, ANSWERED, 0, [])
     return FINE
 
 
@@ -53,21 +46,6 @@ def change_first_window(line, how_much):
         stream.window += change
         if stream.window > MOST_WINDOW:
             return WINDOW_TOO_LARGE
-    return FINE
-
-
-def window_came(line, frame):
-    if len(frame.body) != 4:
-        return WRONG_LENGTH
-    growth = number_without_top_bit(frame.body)
-    if frame.stream == 0:
-        return grow_window(line, growth)
-    if is_idle(line, frame.stream):
-        return OUT_OF_RULE
-    if frame.stream in line.streams:
-        fault = grow_window(line.streams[frame.stream], growth)
-        if fault != FINE:
-            fail_stream(line, frame.stream, fault)
     return FINE
 
 

@@ -19,7 +19,7 @@ STATEMENTS = (
 )
 PYTHONS_OWN = (
     "len", "range", "enumerate", "zip", "min", "max", "sum", "abs", "sorted", "reversed", "int", "str", "bool",
-    "list", "tuple", "dict", "isinstance", "ord", "repr", "any", "all", "divmod", "ValueError",
+    "list", "tuple", "dict", "set", "isinstance", "ord", "repr", "any", "all", "divmod", "ValueError",
 )
 METHODS = (
     "append", "clear", "copy", "count", "endswith", "extend", "find", "get", "index", "insert", "items", "join",
@@ -148,6 +148,11 @@ class LanguageTest(unittest.TestCase):
                     for part in ast.walk(node.value):
                         self.assertIsInstance(
                             part, (ast.Constant, ast.Tuple, ast.Name, ast.Load, ast.UnaryOp, ast.USub), path)
+                        if isinstance(part, ast.Name):
+                            self.assertIn(part.id, self.functions_above(tree, node.lineno), path)
+
+    def functions_above(self, tree, row):
+        return [node.name for node in tree.body if isinstance(node, ast.FunctionDef) and node.lineno < row]
 
 
 if __name__ == "__main__":

@@ -66,6 +66,10 @@ class SettingsFrameTest(unittest.TestCase):
         self.assertEqual(sent(settings((3, 1), (4, LARGEST + 1), (5, 1))), [line_fails(3)])
         self.assertEqual(sent(settings((1, 1), (6, 0), (2, 2))), [line_fails(1)])
 
+    def test_each_of_several_is_four_bytes_long(self):
+        row = settings((2, 1), (5, 16777215), (4, LARGEST), (5, 16384), (65535, 4294967295))
+        self.assertEqual(sent(row), [ACKNOWLEDGED])
+
     def test_several_frames(self):
         self.assertEqual(sent(settings((4, 1)) + settings((4, 2)) + settings((2, 3)) + settings()),
                          [ACKNOWLEDGED, ACKNOWLEDGED, line_fails(1)])

@@ -183,6 +183,8 @@ class FixedTableTest(unittest.TestCase):
 
     def test_no_header_0(self):
         self.assertIsNone(pairs([128]))
+        self.assertIsNone(pairs([128] + text(b"a") + text(b"b")))
+        self.assertIsNone(pairs([128] + indexed(2)))
 
     def test_none_beyond(self):
         for k in (62, 63, 126, 127, 500, 268435455 + 127):
