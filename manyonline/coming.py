@@ -1,6 +1,6 @@
 """Bytes that come, one after another: the first ones, then frames."""
 
-from manyonline.frame import Frame
+from manyonline.frame import MOST_IN_FRAME, Frame
 from manyonline.frames import frame_came
 from manyonline.kinds import FINE, OUT_OF_RULE, WRONG_LENGTH
 from manyonline.line import fail_line, must_wait
@@ -9,7 +9,6 @@ from manyonline.rows import number_of_bytes, number_without_top_bit
 # "PRI * HTTP/2.0", 13, 10, 13, 10, "SM", 13, 10, 13, 10
 FIRST_BYTES = (80, 82, 73, 32, 42, 32, 72, 84, 84, 80, 47, 50, 46, 48, 13, 10, 13, 10, 83, 77, 13, 10, 13, 10)
 FRAME_HEAD = 9
-MOST_IN_FRAME = 16384
 MOST_FED = 16384
 TOO_MANY = -1
 

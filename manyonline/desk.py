@@ -1,8 +1,9 @@
 """The desk: calls on one line's end, handed in as one list of whole numbers."""
 
+from manyonline.answering import answer_stream, go_away, reset_stream, send_data
 from manyonline.coming import feed_bytes
 from manyonline.line import Line, begin_line
-from manyonline.telling import header_told, next_event, take_bytes
+from manyonline.telling import data_told, header_told, next_event, take_bytes
 
 
 class Desk:
@@ -48,8 +49,45 @@ def call_header(desk):
     return header_told(desk.line, k, most)
 
 
+def call_data(desk):
+    return data_told(desk.line, desk.read_number())
+
+
+def call_answer(desk):
+    stream = desk.read_number()
+    last = desk.read_number()
+    return [answer_stream(desk.line, stream, desk.read_row(), last != 0)]
+
+
+def call_send(desk):
+    stream = desk.read_number()
+    last = desk.read_number()
+    return [send_data(desk.line, stream, desk.read_row(), last != 0)]
+
+
+def call_reset(desk):
+    stream = desk.read_number()
+    code = desk.read_number()
+    return [reset_stream(desk.line, stream, code)]
+
+
+def call_away(desk):
+    return [go_away(desk.line, desk.read_number())]
+
+
 # In the order of the calls' numbers, from 0 on.
-BY_CALL = (call_begin, call_feed, call_take, call_event, call_header)
+BY_CALL = (
+    call_begin,
+    call_feed,
+    call_take,
+    call_event,
+    call_header,
+    call_data,
+    call_answer,
+    call_send,
+    call_reset,
+    call_away,
+)
 
 
 def answers(calls):

@@ -1,6 +1,9 @@
-"""A frame that has come whole."""
+"""Frames: one that has come whole, and how much there may be in any."""
 
 from manyonline.kinds import PADDED
+
+# Of what comes no more is taken; of what goes, every other end takes as much.
+MOST_IN_FRAME = 16384
 
 
 class Frame:

@@ -1,4 +1,4 @@
-"""Headers, their weight, and which of them are plain, a request's or trailers."""
+"""Headers, their weight, and which of them are plain, a request's, trailers or an answer's."""
 
 from manyonline.rows import bytes_of_text
 
@@ -85,3 +85,14 @@ def have_right_values(headers):
         if header.name == bytes_of_text(":path") and len(header.value) == 0:
             return False
     return True
+
+
+def are_answer_headers(headers):
+    if len(headers) == 0 or headers[0].name != bytes_of_text(":status"):
+        return False
+    return is_status(headers[0].value) and are_trailers(headers[1:])
+
+
+def is_status(value):
+    digits = bytes_of_text("0123456789")
+    return len(value) == 3 and all([byte in digits for byte in value])

@@ -1,5 +1,7 @@
 """The kinds of frames, the bits of their flags, and the codes of faults."""
 
+DATA_FRAME = 0
+HEADERS_FRAME = 1
 RESET_FRAME = 3
 SETTINGS_FRAME = 4
 PING_FRAME = 6

@@ -1,7 +1,7 @@
 """The server's end of a line: what it keeps, how it sends, fails and tells."""
 
 from manyonline.events import nothing_told, weight_of_event
-from manyonline.kinds import AWAY_FRAME, RESET_FRAME, SETTINGS_FRAME
+from manyonline.kinds import AWAY_FRAME, FINE, RESET_FRAME, SETTINGS_FRAME
 from manyonline.rows import bytes_of_number
 from manyonline.table import Table
 
@@ -19,6 +19,7 @@ class Stream:
     def __init__(self, window, more_may_come):
         self.window = window
         self.more_may_come = more_may_come
+        self.answer_has_begun = False
 
 
 class Line:
@@ -33,6 +34,7 @@ class Line:
         self.window = WINDOW_AT_FIRST
         self.first_window = WINDOW_AT_FIRST
         self.table = Table()
+        self.block_was_sent = False
         self.unsent = []
         self.untold = []
         self.untold_weight = 0
@@ -65,6 +67,14 @@ def fail_stream(line, number, code):
         line.streams.pop(number)
 
 
+def end_stream(line, number):
+    """All that this end sends of the stream has been sent."""
+    if line.streams[number].more_may_come:
+        fail_stream(line, number, FINE)
+    else:
+        line.streams.pop(number)
+
+
 def is_idle(line, number):
     return number > line.highest or number % 2 == 0
 
@@ -74,6 +84,10 @@ def tell(line, event):
     line.untold_weight += weight_of_event(event)
 
 
+def too_much_unsent(line):
+    return len(line.unsent) > MOST_WAITING
+
+
 def must_wait(line):
     """Whether no more bytes may come until more has been taken or told."""
-    return len(line.unsent) > MOST_WAITING or line.untold_weight > MOST_WAITING
+    return too_much_unsent(line) or line.untold_weight > MOST_WAITING

@@ -2,6 +2,12 @@
 
 LOWER_31_BITS = 2147483647
 
+# All ones of so many lower bits: where a number is packed in them, they say that more of it follows.
+SEVEN_BITS = 127
+SIX_BITS = 63
+FIVE_BITS = 31
+FOUR_BITS = 15
+
 
 def bytes_of_text(text):
     return [ord(sign) for sign in text]

@@ -1,6 +1,6 @@
 """What the calls take from a line: bytes that are to be sent, and what is told."""
 
-from manyonline.events import nothing_told, numbers_of_event, weight_of_event
+from manyonline.events import DATA, nothing_told, numbers_of_event, weight_of_event
 
 MOST_AT_ONCE = 65536
 NONE_THERE = -1
@@ -36,3 +36,12 @@ def header_told(line, k, most):
     if length > room_for(most):
         return [TOO_LONG]
     return [length, len(name)] + name + value
+
+
+def data_told(line, most):
+    body = line.told_now.body
+    if line.told_now.kind != DATA:
+        return [NONE_THERE]
+    if len(body) > room_for(most):
+        return [TOO_LONG]
+    return [len(body)] + body

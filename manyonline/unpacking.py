@@ -1,13 +1,8 @@
 """Unpacking: from the bytes of a whole block to its headers."""
 
 from manyonline.headers import Header
+from manyonline.rows import FIVE_BITS, FOUR_BITS, SEVEN_BITS, SIX_BITS
 from manyonline.table import MOST_HELD
-
-# All ones of so many lower bits: what a number in them is read with.
-SEVEN_BITS = 127
-SIX_BITS = 63
-FIVE_BITS = 31
-FOUR_BITS = 15
 
 
 class WrongBlock(ValueError):

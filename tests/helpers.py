@@ -22,6 +22,36 @@ def header(k, most=MOST):
     return [4, k, most]
 
 
+def data(most=MOST):
+    return [5, most]
+
+
+def answer(stream, headers, last=0):
+    """Headers are pairs, or a row of bytes as it is handed over."""
+    row = handed(*headers) if isinstance(headers, tuple) else list(headers)
+    return [6, stream, last, len(row)] + row
+
+
+def handed(*pairs):
+    """Headers as they are handed over: two lengths, the name, the value."""
+    row = []
+    for name, value in pairs:
+        row.extend(len(name).to_bytes(2, "big") + len(value).to_bytes(2, "big") + bytes(name) + bytes(value))
+    return row
+
+
+def send(stream, row, last=0):
+    return [7, stream, last, len(row)] + list(row)
+
+
+def reset(stream, code):
+    return [8, stream, code]
+
+
+def away(code):
+    return [9, code]
+
+
 def run(*calls):
     """The answers to these calls, a list each."""
     numbers = []
@@ -122,10 +152,27 @@ def resized(weight):
 # :method GET, :scheme http, :path /
 GET = [130, 134, 132]
 
+# What an answer may begin with, as it is handed over and packed.
+STATUS = (b":status", b"200")
+PACKED_STATUS = [136]
+
 
 def request(stream, block=(), last=True):
     """A frame that asks for something; the block holds what comes behind GET."""
     return frame(1, 5 if last else 4, stream, GET + list(block))
+
+
+PING = frame(6, 0, 0, [5] * 8)
+
+# Stream 3 is there, stream 1 is gone: data of one byte for it make 26 that are to be sent. With what the
+# line's start sends, and with two more frames of settings, just 65536 bytes are to be sent.
+FULL = START + request(1) + frame(3, 0, 1, four(0)) + request(3) + frame(0, 0, 1, [7]) * 2519 + frame(4, 0, 0) * 2
+
+
+def after_full(*calls):
+    """What calls answer once FULL has come and nothing has been taken."""
+    before = [BEGIN, *feeds(FULL)]
+    return run(*before, *calls)[len(before):]
 
 
 class Outcome:
@@ -133,14 +180,27 @@ class Outcome:
 
     def __init__(self, row, start=START):
         row = list(start) + list(row)
-        pieces = [row[k:k + 16384] for k in range(0, len(row), 16384)]
-        calls = [BEGIN] + [feed(piece) for piece in pieces] + [take()]
-        parts = run(*calls, *[EVENT] * 40)
+        pieces = feeds(row)
+        parts = run(BEGIN, *pieces, take(), *[EVENT] * 40)
         self.taken = sum(part[0] for part in parts[1:1 + len(pieces)])
         self.fed = len(row)
         self.frames = split_frames(parts[1 + len(pieces)][1:])
         self.sent = self.frames[2:]
         self.told = [part for part in parts[2 + len(pieces):] if part[0] != 0]
+
+
+def feeds(row):
+    """Calls that feed a row of any length."""
+    return [feed(row[place:place + 16384]) for place in range(0, len(row), 16384)]
+
+
+def after(row, *calls):
+    """What calls answer once a line has started and the row has come, and which frames are sent from then on."""
+    before = [BEGIN, *feeds(START + list(row)), take()]
+    behind = [*calls, take(), take()]
+    parts = run(*before, *behind)[len(before):]
+    taken = [byte for call, part in zip(behind, parts) if call[0] == 2 for byte in part[1:]]
+    return parts[:len(calls)], split_frames(taken)
 
 
 def sent(row):

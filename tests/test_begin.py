@@ -3,8 +3,8 @@
 import unittest
 
 from tests.helpers import (
-    BEGIN, EVENT, FIRST_BYTES, GET, LARGEST, OWN_SETTINGS, START,
-    feed, four, frame, header, indexed, kept, line_fails, request, run, setting, spelled, split_frames, take,
+    BEGIN, EVENT, FIRST_BYTES, GET, LARGEST, OWN_SETTINGS, START, STATUS, answer, data, feed, four, frame, header,
+    indexed, kept, line_fails, request, reset, run, send, setting, spelled, split_frames, take,
 )
 
 
@@ -76,6 +76,28 @@ class BeginTest(unittest.TestCase):
         grown = START + request(1) + frame(8, 0, 1, four(LARGEST - 65535))
         parts = run(BEGIN, feed(large), BEGIN, feed(grown), take())
         self.assertEqual(split_frames(parts[4][1:])[2:], [])
+
+    def test_no_answer_has_begun(self):
+        asked = feed(START + request(1))
+        parts = run(BEGIN, asked, answer(1, (STATUS,)), BEGIN, asked, send(1, [5]), answer(1, (STATUS,)), send(1, [5]))
+        self.assertEqual(parts[5:], [[-1], [0], [1]])
+
+    def test_a_stream_that_was_gone_can_be_asked_anew(self):
+        asked = feed(START + request(1))
+        for gone in (reset(1, 3), answer(1, (STATUS,), 1)):
+            parts = run(BEGIN, asked, gone, BEGIN, answer(1, (STATUS,)), asked, answer(1, (STATUS,)))
+            self.assertEqual(parts[4:], [[-1], [len(asked) - 2], [0]])
+
+    def test_windows_that_were_used_up_are_new(self):
+        asked = feed(START + request(1))
+        parts = run(BEGIN, asked, answer(1, (STATUS,)), send(1, [5] * 65535), BEGIN, asked, answer(1, (STATUS,)),
+                    send(1, [5] * 65535))
+        self.assertEqual(parts[3:], [[65535], [0], [len(asked) - 2], [0], [65535]])
+
+    def test_no_data_are_told(self):
+        parts = run(BEGIN, feed(START + request(1, last=False) + frame(0, 0, 1, [5])), EVENT, EVENT, data(), BEGIN,
+                    data(), EVENT)
+        self.assertEqual(parts[4:], [[1, 5], [0], [-1], [0] * 5])
 
     def test_what_waited_waits_no_longer(self):
         heavy = kept(b"a", b"b" * 3000) + indexed(62) * 20

@@ -4,7 +4,8 @@ import unittest
 
 import manyonline.desk
 from tests.helpers import (
-    BEGIN, EVENT, START, feed, four, frame, header, kept, request, run, split_answers, split_frames, take,
+    BEGIN, EVENT, LARGEST, OWN_SETTINGS, START, STATUS, answer, away, data, feed, four, frame, header, kept, line_fails,
+    request, reset, room, run, send, split_answers, split_frames, stream_fails, take,
 )
 
 
@@ -13,9 +14,13 @@ def joined(*calls):
 
 
 class AnswersTest(unittest.TestCase):
+    ASKED = START + request(1, kept(b"a", b"b"), False) + frame(0, 0, 1, [1, 2])
     CALLS = joined(
-        BEGIN, feed(START + request(1, kept(b"a", b"b"), False) + frame(0, 0, 1, [1, 2])), take(20), EVENT,
-        header(3), header(4), header(3, 0), EVENT, take(), EVENT, BEGIN, feed([]), feed([80, 81]), take(0), take(),
+        BEGIN, feed(ASKED), take(20), EVENT, header(3), header(4), header(3, 0), EVENT, data(), data(1),
+        answer(1, (STATUS, (b"a", b"b")), 0), send(1, [3, 4], 0), send(1, [], 1), send(1, []), take(), EVENT,
+        BEGIN, feed([]), feed(ASKED), take(0), reset(3, 1), reset(1, 1), answer(1, (STATUS,)), take(),
+        feed(request(3)), answer(3, ((b":status", b"404"),), 1), EVENT, away(-1), away(2), feed([80, 81]), reset(3, 0),
+        take(), BEGIN, take(),
     )
 
     def test_the_empty_list(self):
@@ -31,7 +36,43 @@ class AnswersTest(unittest.TestCase):
         self.assertIs(type(answered), list)
         for number in answered:
             self.assertIs(type(number), int)
-        self.assertEqual(len(split_answers(answered)), 15)
+        self.assertEqual(len(split_answers(answered)), 34)
+
+    def test_all_ten_calls_and_begin_among_them(self):
+        own = OWN_SETTINGS + frame(4, 1, 0)
+        rooms = frame(8, 0, 0, four(2)) + frame(8, 0, 1, four(2))
+        parts = split_answers(manyonline.desk.answers(list(self.CALLS)))
+        self.assertEqual(parts[:10], [
+            [0], [len(self.ASKED)], [20] + own[:20], [1, 1, 0, 4, 0], [2, 1, 97, 98], [-1], [-2], [3, 1, 0, 2, 0],
+            [2, 1, 2], [-2],
+        ])
+        self.assertEqual(parts[10:14], [[0], [2], [0], [-1]])
+        self.assertEqual(parts[14][1:], own[20:] + rooms + frame(1, 4, 1, [32, 136, 0, 1, 97, 1, 98]) +
+                         frame(0, 0, 1, [3, 4]) + frame(0, 1, 1) + frame(3, 0, 1, four(0)))
+        self.assertEqual(parts[15:23], [[0] * 5, [0], [0], [len(self.ASKED)], [0], [-1], [0], [-1]])
+        self.assertEqual(split_frames(parts[23][1:])[2:], [room(0, 2), room(1, 2), stream_fails(1, 1)])
+        self.assertEqual(parts[24:31], [[len(request(3))], [0], [1, 1, 0, 4, 0], [-1], [0], [2], [-4]])
+        self.assertEqual(split_frames(parts[31][1:]), [(1, 5, 3, [32, 141]), line_fails(2, 3)])
+        self.assertEqual(parts[32:], [[0], [15] + OWN_SETTINGS])
+
+    def test_plain_numbers_that_are_answered(self):
+        calls = joined(BEGIN, feed(START + request(1)), answer(1, (STATUS,)), send(1, [5]), reset(1, 0), away(0))
+        self.assertEqual(manyonline.desk.answers(calls), [1, 0, 1, len(START + request(1)), 1, 0, 1, 1, 1, 0, 1, 0])
+
+    def test_where_the_numbers_of_a_call_stand(self):
+        asked = START + request(1) + request(3)
+        calls = joined(BEGIN, feed(asked), take(), [6, 3, 0, 14, 0, 7, 0, 3], list(b":status200"),
+                       [7, 3, 1, 2, 8, 9], [8, 1, 5], [9, 7], take())
+        parts = split_answers(manyonline.desk.answers(calls))
+        self.assertEqual(parts[3:7], [[0], [2], [0], [0]])
+        self.assertEqual(split_frames(parts[7][1:]),
+                         [(1, 4, 3, [32, 136]), (0, 1, 3, [8, 9]), stream_fails(1, 5), line_fails(7, 3)])
+
+    def test_rows_without_numbers(self):
+        calls = joined(BEGIN, feed(START + request(1)), [6, 1, 0, 0], [7, 1, 0, 0], [1, 0], answer(1, (STATUS,)),
+                       [7, 1, 0, 0], [7, 1, 1, 0], [2, 0])
+        self.assertEqual(split_answers(manyonline.desk.answers(calls))[2:],
+                         [[-1], [-1], [0], [0], [0], [0], [0]])
 
     def test_the_list_is_the_same_afterwards(self):
         calls = list(self.CALLS)
@@ -84,8 +125,20 @@ class AnswersTest(unittest.TestCase):
         self.assertEqual(split_frames(parts[3][1:])[2:], [(3, 0, 1, four(1))])
 
     def test_numbers_at_the_ends_of_their_range(self):
-        for number in (2147483647, -2147483648):
-            self.assertEqual(run(BEGIN, take(number), header(number, number)), [[0], [0], [-1]])
+        for number in (LARGEST, -LARGEST - 1):
+            self.assertEqual(run(BEGIN, take(number), header(number, number), data(number)), [[0], [0], [-1], [-1]])
+            self.assertEqual(run(BEGIN, answer(number, (STATUS,), number), send(number, [5], number),
+                                 reset(number, number), reset(1, number)), [[0], [-1], [-1], [-1], [-1]])
+        self.assertEqual(run(BEGIN, away(-LARGEST - 1), away(LARGEST)), [[0], [-1], [0]])
+
+    def test_as_long_as_a_list_may_be(self):
+        before = joined(BEGIN, feed(START + request(1)), answer(1, (STATUS,)), take())
+        count = 30000 - len(before) - len(send(1, [])) - len(take())
+        calls = joined(before, send(1, [5] * count, 1), take())
+        self.assertEqual(len(calls), 30000)
+        parts = split_answers(manyonline.desk.answers(calls))
+        self.assertEqual(parts[4], [count])
+        self.assertEqual(split_frames(parts[5][1:]), [(0, 0, 1, [5] * 16384), (0, 1, 1, [5] * (count - 16384))])
 
 
 if __name__ == "__main__":

@@ -123,6 +123,35 @@ class LanguageTest(unittest.TestCase):
                 if isinstance(node, ast.arg):
                     self.assertNotIn(node.arg, dir(__import__("builtins")))
 
+    def test_no_local_is_called_like_an_import_or_a_class(self):
+        for path, tree in self.trees():
+            taken = {name.name for node in tree.body if isinstance(node, ast.ImportFrom) for name in node.names}
+            taken |= {node.name for node in tree.body if isinstance(node, (ast.ClassDef, ast.FunctionDef))}
+            for node in ast.walk(tree):
+                if isinstance(node, ast.arg):
+                    self.assertNotIn(node.arg, taken, path)
+                if isinstance(node, ast.Name) and isinstance(node.ctx, ast.Store):
+                    self.assertNotIn(node.id, taken, path)
+
+    def test_no_two_files_draw_from_one_another(self):
+        drawn = {}
+        for path, tree in self.trees():
+            modules = [node.module.split(".")[1] for node in tree.body if isinstance(node, ast.ImportFrom)]
+            drawn[path.stem] = set(modules)
+        while drawn:
+            free = [name for name in drawn if not drawn[name] & set(drawn)]
+            self.assertNotEqual(free, [], "these draw from one another: " + " ".join(sorted(drawn)))
+            for name in free:
+                drawn.pop(name)
+
+    def test_walked_at_once(self):
+        lazy = ("zip", "enumerate", "reversed", "range")
+        for path, tree in self.trees():
+            walked = [node.iter for node in ast.walk(tree) if isinstance(node, (ast.For, ast.comprehension))]
+            for node in ast.walk(tree):
+                if isinstance(node, ast.Call) and isinstance(node.func, ast.Name) and node.func.id in lazy:
+                    self.assertIn(node, walked, path)
+
     def test_methods(self):
         own = set()
         values = set()
