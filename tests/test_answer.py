@@ -250,6 +250,12 @@ class LastTest(unittest.TestCase):
         answered, frames = after(request(1, last=False) + frame(0, 0, 1, [5]), answer(1, (STATUS,), 1))
         self.assertEqual(frames, [(1, 5, 1, [32, 136]), stream_fails(1, 0)])
 
+    def test_trailers_that_are_not_whole_may_still_come(self):
+        row = request(1, last=False) + frame(1, 1, 1, [0, 1])
+        answered, frames = after(row, answer(1, (STATUS,), 1), feed(frame(9, 4, 1, [97, 0])), EVENT, EVENT)
+        self.assertEqual(answered[2:], [[1, 1, 0, 3, 0], [0] * 5])
+        self.assertEqual(frames, [(1, 5, 1, [32, 136]), stream_fails(1, 0), stream_fails(1, 5)])
+
     def test_it_is_gone_for_the_calls(self):
         for last in (False, True):
             answered, frames = after(request(1, last=last), answer(1, (STATUS,), 1), answer(1, (STATUS,)),
